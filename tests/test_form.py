@@ -5,19 +5,44 @@ import unittest
 import floorunroll.picture
 from floorunroll.picture import answers
 
-from tests.helping import FITS, READY, TILTED
+from tests.helping import FITS, HORIZON, NAMES, POINT_NUMBERS, READY, STATE, TILTED
 from tests.helping import flat, marked, said
+from tests.modelling import modelled
 
-MIXED = flat(marked(TILTED) + [
-    READY, ("unroll", 50, 50), ("unroll", 50, 100), ("seen", 1, 1), ("off", 3), ("off", 9), FITS,
-    ("unroll", 101, 0), ("mark", 5, 10, 50, 49), FITS, ("unmark", 3), READY,
-])
-
-ANSWERED = [
-    1, 0, 1, 0, 1, 1, 1, 2, 1, 3,
-    1, 1, 5, 0, 5, 1, 10, 1, 1, -6, 5, 0, 150, 11, 100, 11, 5, 0, 0, 1, 0, 1, 1, -2, 1, 1,
-    1, -22, 1, 4, 1, 0, 1, 4, 1, 1,
+# All 16 calls, with what each answers.
+TOLD = [
+    (STATE, [-11]),
+    *zip(marked(TILTED), ([0], [0], [1], [2], [3])),
+    (READY, [1]),
+    (("unroll", 50, 50), [0, 5, 1, 10, 1]),
+    (("unroll", 50, 100), [-6]),
+    (("seen", 1, 1), [0, 150, 11, 100, 11]),
+    (("off", 3), [0, 0, 1, 0, 1]),
+    (("off", 9), [-2]),
+    (FITS, [1]),
+    (HORIZON, [0, 0, 1, -100]),
+    (("side", 7, 99), [1]),
+    (("side", 7, 100), [0]),
+    (("middle", 50, 0, 50, 50), [0, 50, 1, 100, 3]),
+    (("apart", 7, 30, 0, 0), [0, 964, 49]),
+    (("apart", 7, 30, 0, 100), [-6]),
+    (("part", 25, 50, 45, 90, 0, 0), [0, -1, 8]),
+    (("part", 25, 50, 25, 50, 0, 0), [-33]),
+    (("line", 100, 0, 75, 50), [0, 1, 0, -10]),
+    (("line", 100, 0, 100, 0), [-17]),
+    (("straight", 0, 0, 25, 50, 45, 90), [1]),
+    (("unroll", 101, 0), [-22]),
+    (STATE, [4, 0, 0, 0, 0, 10, 0, 100, 0, 10, 10, 75, 50, 0, 10, 25, 50]),
+    (("mark", 5, 10, 50, 49), [4]),
+    (FITS, [0]),
+    (("unmark", 3), [4]),
+    (READY, [1]),
+    (("unmark", 3), [3]),
+    (HORIZON, [-16]),
+    (STATE, [3, 0, 0, 0, 0, 10, 0, 100, 0, 10, 10, 75, 50]),
 ]
+MIXED = flat([call for call, answer in TOLD])
+ANSWERED = [number for call, answer in TOLD for number in [len(answer)] + answer]
 
 
 class Sealed(list):
@@ -35,7 +60,19 @@ class TheForm(unittest.TestCase):
         self.assertEqual(answers([0]), [1, 0])
         self.assertEqual(answers([3]), [1, -11])
         self.assertEqual(answers([0, 3]), [1, 0, 1, 0])
+        self.assertEqual(answers([0, 15, 1, 9, 8, 7, 6, 15]), [1, 0, 1, 0, 1, 0, 5, 1, 9, 8, 7, 6])
         self.assertEqual(answers(MIXED), ANSWERED)
+
+    def test_each_call_by_its_number(self):
+        self.assertEqual({call[0] for call, answer in TOLD}, set(NAMES))
+        square = [0, 1, 0, 0, 0, 0, 1, 10, 0, 100, 0, 1, 10, 10, 75, 50, 1, 0, 10, 25, 50]
+        for handed, answered in (
+            ([8], [0, 0, 1, -100]), ([9, 7, 99], [1]), ([10, 50, 0, 50, 50], [0, 50, 1, 100, 3]),
+            ([11, 7, 30, 0, 0], [0, 964, 49]), ([12, 25, 50, 45, 90, 0, 0], [0, -1, 8]),
+            ([13, 100, 0, 75, 50], [0, 1, 0, -10]), ([14, 0, 0, 25, 50, 45, 91], [0]),
+            ([15], [4, 0, 0, 0, 0, 10, 0, 100, 0, 10, 10, 75, 50, 0, 10, 25, 50]),
+        ):
+            self.assertEqual(answers(square + handed)[10:], [len(answered)] + answered)
 
     def test_plain_whole_numbers_in_a_plain_list(self):
         found = answers(MIXED)
@@ -58,6 +95,26 @@ class TheForm(unittest.TestCase):
         self.assertEqual(answers([0] + [1, 0, 0, 0, 0] * 199)[:4], [1, 0, 1, 0])
         self.assertEqual(answers([0] + [1, 0, 0, 0, 0] * 199)[-2:], [1, -28])
         self.assertEqual(answers([0] * 200), [1, 0] * 200)
+        longest = [0] + [12, 1, 2, 3, 4, 5, 6] * 199
+        self.assertLessEqual(len(longest), 1400)
+        self.assertEqual(answers(longest), [1, 0] + [1, -16] * 199)
+        self.assertEqual(answers([0] + [14, 1, 2, 3, 4, 5, 6] * 199), [1, 0] + [1, 1] * 199)
+
+    def test_two_hundred_calls_of_all_kinds(self):
+        calls = marked(TILTED)
+        while len(calls) < 200:
+            k = len(calls)
+            name = NAMES[3 + k % 13]
+            numbers = [(k * j) % 101 for j in range(3, 3 + POINT_NUMBERS.get(name, 0))]
+            calls.append(("off", k % 5) if name == "off" else (name, *numbers))
+        self.assertEqual(len(calls), 200)
+        self.assertEqual(said(calls), modelled(calls))
+
+    def test_two_hundred_times_the_state_of_eight(self):
+        calls = marked([(k, k, k, k) for k in range(8)]) + [STATE] * 191
+        found = said(calls)
+        self.assertEqual(len(found), 200)
+        self.assertEqual(found[9:], [[8] + [k // 4 for k in range(32)]] * 191)
 
 
 class NothingKept(unittest.TestCase):
@@ -84,6 +141,7 @@ class NothingKept(unittest.TestCase):
         self.assertEqual(answers([3]), [1, -11])
         self.assertEqual(answers([0, 3]), [1, 0, 1, 0])
         self.assertEqual(answers([0, 6, 0]), [1, 0, 1, -2])
+        self.assertEqual(answers([15, 0, 15]), [1, -11, 1, 0, 1, 0])
 
 
 if __name__ == "__main__":

@@ -38,6 +38,9 @@ NODES = tuple(getattr(ast, name) for name in (
     " Call keyword Attribute Subscript Slice ListComp comprehension JoinedStr FormattedValue"
     " expr_context operator unaryop boolop cmpop").split())
 
+# What a value of a file's top is made of.
+PLAIN = (ast.Constant, ast.UnaryOp, ast.USub, ast.Tuple, ast.Name, ast.Load)
+
 
 def trees():
     """Each file of the package with what it says."""
@@ -119,6 +122,38 @@ class TheCode(unittest.TestCase):
                     self.assertIsInstance(node.targets[0], ast.Name, (path, node.lineno))
                     names.append(node.targets[0].id)
             self.assertEqual(len(names), len(set(names)), path)
+
+    def test_l3_values_of_the_top(self):
+        for path, tree in trees():
+            above = []
+            for node in tree.body:
+                if isinstance(node, ast.FunctionDef):
+                    above.append(node.name)
+                if isinstance(node, ast.Assign):
+                    for inner in ast.walk(node.value):
+                        self.assertIsInstance(inner, PLAIN, (path, node.lineno))
+                        if isinstance(inner, ast.Name):
+                            self.assertIn(inner.id, above, (path, node.lineno))
+
+    def test_l22_l23_calls_of_pythons_own(self):
+        for path, tree in trees():
+            walked = []
+            for node in ast.walk(tree):
+                if isinstance(node, (ast.For, ast.comprehension)):
+                    walked.append(node.iter)
+            for node in ast.walk(tree):
+                if isinstance(node, ast.Call):
+                    self.assertEqual(node.keywords, [], (path, node.lineno))
+                    if isinstance(node.func, ast.Name) and node.func.id in ("range", "zip", "enumerate", "reversed"):
+                        self.assertIn(node, walked, (path, node.lineno))
+                    if isinstance(node.func, ast.Name):
+                        self.assertNotIn(node.func.id, ("set", "frozenset"), (path, node.lineno))
+                self.assertFalse(isinstance(node, (ast.Set, ast.Try, ast.Lambda)), path)
+
+    def test_it_imports_nothing(self):
+        for path, tree in trees():
+            for node in ast.walk(tree):
+                self.assertFalse(isinstance(node, (ast.Import, ast.ImportFrom)), path)
 
     def test_l4_l10_functions(self):
         for path, tree in trees():

@@ -1,10 +1,9 @@
-"""Point 1: start, mark, unmark, ready."""
+"""Point 1: start, mark, unmark, ready, state; and what every call answers before a start."""
 
 import unittest
 
-from floorunroll.picture import answers
-
-from tests.helping import ABOVE, CROOKED, FITS, LEAST, MOST, READY, START, TILTED, TURNED
+from tests.helping import ABOVE, CROOKED, FITS, HORIZON, LEAST, MOST, NAMES, POINT_NUMBERS, READY, START, STATE, TILTED
+from tests.helping import TURNED
 from tests.helping import asked, marked, said, whole
 
 EIGHT = [(k, 2 * k, 3 * k, 4 * k) for k in range(8)]
@@ -31,20 +30,30 @@ def is_ready(marks):
 
 
 class BeforeAStart(unittest.TestCase):
+    def each_call(self, number):
+        """Each call but start, with that number for every one of a point."""
+        calls = [("unmark", 0), READY, ("off", 0), FITS, HORIZON, STATE]
+        calls += [(name,) + (number,) * many for name, many in POINT_NUMBERS.items()]
+        self.assertEqual(sorted([call[0] for call in calls] + ["start"]), sorted(NAMES))
+        return calls
+
     def test_every_call_answers_minus_11(self):
-        calls = [("mark", 1, 2, 3, 4), ("unmark", 0), READY, ("unroll", 1, 2), ("seen", 1, 2), ("off", 0), FITS]
+        calls = self.each_call(7)
         for call in calls:
             self.assertEqual(said([call]), [[-11]], call)
-        self.assertEqual(said(calls + calls), [[-11]] * 14)
+            self.assertEqual(said([call, START]), [[-11], [0]], call)
+        self.assertEqual(said(calls + calls), [[-11]] * 30)
 
     def test_it_comes_ahead_of_every_other_refusal(self):
-        self.assertEqual(said([("mark", -1, 0, 0, 101), ("unroll", MOST, 0), ("seen", 0, LEAST)]), [[-11]] * 3)
+        for number in (-1, 101, LEAST, MOST):
+            for call in self.each_call(number):
+                self.assertEqual(said([call]), [[-11]], call)
         self.assertEqual(said([("unmark", MOST), ("off", MOST)]), [[-11]] * 2)
 
-    def test_it_holds_for_the_calls_of_the_whole_interface(self):
-        widths = {8: 0, 9: 2, 10: 4, 11: 4, 12: 6, 13: 4, 14: 6, 15: 0}
-        for number, width in widths.items():
-            self.assertEqual(answers([number] + [0] * width + [0]), [1, -11, 1, 0], number)
+    def test_behind_a_start_none_does(self):
+        for call in self.each_call(7):
+            self.assertNotEqual(said([START, call])[1], [-11], call)
+            self.assertNotEqual(said([call, START, call])[2], [-11], call)
 
     def test_what_is_refused_then_is_not_kept(self):
         calls = [("mark",) + mark for mark in TILTED] + [START, READY, ("off", 0), ("mark", 1, 2, 3, 4)]
@@ -200,6 +209,47 @@ class BeingReady(unittest.TestCase):
         self.assertEqual(asked(last_twice, [READY, ("unmark", 0), READY]), [[1], [4], [0]])
         self.assertEqual(asked(last_twice, [READY, ("unmark", 3), READY]), [[1], [4], [1]])
         self.assertEqual(asked(TILTED, [READY, ("unmark", 2), READY]), [[1], [3], [0]])
+
+
+class TellingTheState(unittest.TestCase):
+    def check(self, calls, marks):
+        told = [len(marks)]
+        for mark in marks:
+            told.extend(mark)
+        self.assertEqual(said(calls + [STATE])[-1], told)
+
+    def test_no_marks(self):
+        self.assertEqual(said([START, STATE]), [[0], [0]])
+        self.assertEqual(said(marked(EIGHT) + [START, STATE])[-1], [0])
+
+    def test_each_ones_numbers_in_their_order(self):
+        self.assertEqual(said([START, ("mark", 1, 2, 3, 4), STATE])[-1], [1, 1, 2, 3, 4])
+        found = said(marked([(100, 0, 7, 50), (0, 100, 50, 7)]) + [STATE])[-1]
+        self.assertEqual(found, [2, 100, 0, 7, 50, 0, 100, 50, 7])
+
+    def test_from_one_to_eight(self):
+        for many in range(1, 9):
+            self.check(marked(EIGHT[:many]), EIGHT[:many])
+
+    def test_ready_or_not(self):
+        for marks in (TILTED, TILTED + [(5, 10, 50, 51)], [(3, 4, 5, 6)] * 4):
+            self.check(marked(marks), marks)
+
+    def test_after_an_unmark(self):
+        for at in range(8):
+            self.check(marked(EIGHT) + [("unmark", at)], EIGHT[:at] + EIGHT[at + 1:])
+        self.check(marked(EIGHT) + [("unmark", 2), ("unmark", 2)], EIGHT[:2] + EIGHT[4:])
+        self.check(marked(EIGHT) + [("unmark", 0), ("mark", 9, 8, 7, 6)], EIGHT[1:] + [(9, 8, 7, 6)])
+        self.check(marked(EIGHT[:1]) + [("unmark", 0)], [])
+
+    def test_what_is_refused_changes_nothing(self):
+        refused = [("mark", 1, 1, 1, 1), ("mark", 0, 0, 0, 101), ("unmark", 8), ("off", 8), ("unroll", 101, 0)]
+        self.check(marked(EIGHT) + refused, EIGHT)
+
+    def test_no_other_call_changes_it(self):
+        asking = [READY, FITS, HORIZON, STATE, ("off", 1)]
+        asking += [(name,) + tuple(range(many)) for name, many in POINT_NUMBERS.items() if name != "mark"]
+        self.check(marked(TILTED) + asking, TILTED)
 
 
 if __name__ == "__main__":

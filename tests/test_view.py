@@ -3,13 +3,11 @@
 import itertools
 import unittest
 
-from tests.helping import ABOVE, CROOKED, FITS, LEAST, MOST, START, TILTED, TURNED
+from tests.helping import ABOVE, ALL_FOURS, BAD_PLACES, CROOKED, FITS, LEAST, LOW, MOST, NOT_READY, START, TILTED
+from tests.helping import TURNED
 from tests.helping import area, asked, points_of, said, whole
 
-ALL_FOURS = (TILTED, TURNED, ABOVE, CROOKED)
 OUTSIDE = (-1, 101, LEAST, MOST)
-# Three of the places are on a line.
-NOT_READY = [(0, 0, 0, 0), (5, 5, 100, 0), (10, 10, 75, 50), (0, 10, 25, 50)]
 WIDE = [(k, j) for k in range(0, 101, 4) for j in range(0, 101, 4)]
 
 
@@ -22,7 +20,7 @@ class Refusing(unittest.TestCase):
 
     def test_not_ready(self):
         for name in ("unroll", "seen"):
-            for marks in ([], TILTED[:3], NOT_READY):
+            for marks in NOT_READY:
                 self.assertEqual(asked(marks, [(name, 0, 0), (name, 100, 100)]), [[-16], [-16]], marks)
 
     def test_out_of_range_ahead_of_not_ready(self):
@@ -30,7 +28,7 @@ class Refusing(unittest.TestCase):
             for number in OUTSIDE:
                 calls = [(name, number, 50), (name, 50, number)]
                 self.assertEqual(said([START] + calls)[1:], [[-22]] * 2)
-                self.assertEqual(asked(NOT_READY, calls), [[-22]] * 2)
+                self.assertEqual(asked(BAD_PLACES, calls), [[-22]] * 2)
 
     def test_0_and_100_are_taken(self):
         for name in ("unroll", "seen"):
@@ -62,10 +60,8 @@ class Unrolling(unittest.TestCase):
             self.assertEqual(asked(TILTED, [("unroll", u, 99)])[0][0], 0, u)
 
     def test_behind_the_horizon(self):
-        # The trapezium once more, half as high: the horizon is where v is 50.
-        marks = [(0, 0, 0, 0), (10, 0, 100, 0), (10, 10, 75, 25), (0, 10, 25, 25)]
         calls = [("unroll", 50, 50), ("unroll", 50, 75), ("unroll", 0, 100), ("unroll", 50, 49)]
-        self.assertEqual(asked(marks, calls), [[-6], whole(5, -30), whole(10, -20), whole(5, 490)])
+        self.assertEqual(asked(LOW, calls), [[-6], whole(5, -30), whole(10, -20), whole(5, 490)])
 
     def test_a_slanted_horizon(self):
         # u is 60x / (x + y + 1), v is 60y / (x + y + 1); the horizon: u + v is 60.
@@ -173,13 +169,13 @@ class BeingOff(unittest.TestCase):
         self.assertEqual(said([START, ("off", 0)]), [[0], [-2]])
 
     def test_not_ready(self):
-        for marks in (TILTED[:3], NOT_READY, TILTED[:1]):
+        for marks in (TILTED[:3], BAD_PLACES, TILTED[:1]):
             calls = [("off", k) for k in range(len(marks))]
             self.assertEqual(asked(marks, calls), [[-16]] * len(marks))
 
     def test_none_such_ahead_of_not_ready(self):
         self.assertEqual(asked(TILTED[:3], [("off", 3), ("off", 2)]), [[-2], [-16]])
-        self.assertEqual(asked(NOT_READY, [("off", 4), ("off", MOST)]), [[-2], [-2]])
+        self.assertEqual(asked(BAD_PLACES, [("off", 4), ("off", MOST)]), [[-2], [-2]])
 
     def test_the_first_four_are_not_off(self):
         for marks in ALL_FOURS:
@@ -213,7 +209,7 @@ class BeingOff(unittest.TestCase):
 
 class Fitting(unittest.TestCase):
     def test_not_ready(self):
-        for marks in ([], TILTED[:3], NOT_READY, NOT_READY + TILTED):
+        for marks in NOT_READY:
             self.assertEqual(asked(marks, [FITS]), [[-16]], marks)
 
     def test_just_four(self):
